@@ -28,8 +28,12 @@ func wantErr(t *testing.T, call string, e, want api.Errno) {
 	}
 }
 
+// Try is asked, too, wherever something is appended: it tells the same, and changes nothing.
 func wantAppend(t *testing.T, d *Disk, file int, s string, want api.Errno) {
 	t.Helper()
+	files, used := d.List(), d.Used()
+	wantErr(t, "Try "+strconv.Itoa(file)+" of "+strconv.Itoa(len(s))+" bytes", d.Try(file, s), want)
+	wantFiles(t, d, used, files...)
 	wantErr(t, "Append "+strconv.Itoa(file)+" of "+strconv.Itoa(len(s))+" bytes", d.Append(file, s), want)
 }
 
@@ -454,7 +458,7 @@ func anyCall(t *testing.T, source *rand.Rand, d *Disk, p *plainDisk) {
 		}
 	default:
 		s := strings.Repeat(strconv.Itoa(source.Intn(10)), max(size, 0))
-		wantErr(t, "Append", d.Append(file, s), p.append(file, s))
+		wantAppend(t, d, file, s, p.append(file, s))
 	}
 }
 
