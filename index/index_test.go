@@ -6,6 +6,7 @@ import (
 	"strconv"
 	"strings"
 	"testing"
+	"unsafe"
 
 	"rillbook/api"
 	"rillbook/subject"
@@ -312,6 +313,29 @@ func TestAnswersAreNewMemoryP2P6(t *testing.T) {
 	}
 	if !slices.Equal(second, want) {
 		t.Errorf("an answer changed with the index: %v", second)
+	}
+}
+
+func place(s string) uintptr { return uintptr(unsafe.Pointer(unsafe.StringData(s))) }
+
+// A text that can't be written to can still share memory with another one: its place tells.
+func sharesMemory(a, b string) bool {
+	return a != "" && b != "" && place(a) < place(b)+uintptr(len(b)) && place(b) < place(a)+uintptr(len(a))
+}
+
+func TestTextsAreNewMemoryP2P6(t *testing.T) {
+	x := New()
+	given := strings.Repeat("a", api.MaxToken)
+	put(t, x, given, 1)
+	first, _ := x.Find(">")
+	second, _ := x.Find(">")
+	texts := []string{given, x.entries[0].Subject, first[0].Subject, second[0].Subject}
+	for i, a := range texts {
+		for j, b := range texts[:i] {
+			if sharesMemory(a, b) {
+				t.Errorf("texts %d and %d share memory", i, j)
+			}
+		}
 	}
 }
 
