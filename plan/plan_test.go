@@ -96,6 +96,31 @@ func TestNamesP19(t *testing.T) {
 	}
 }
 
+// Other packages ask for names and numbers alone.
+func TestIsNameP19(t *testing.T) {
+	for s, want := range map[string]bool{
+		"s": true, "-": true, "jobs-2": true, strings.Repeat("n", 16): true,
+		"": false, "S": false, "a b": false, "a.b": false, "é": false, strings.Repeat("n", 17): false,
+	} {
+		if is := IsName(s); is != want {
+			t.Errorf("IsName(%q): %t", s, is)
+		}
+	}
+}
+
+func TestReadNumberP20(t *testing.T) {
+	for s, want := range map[string]int{"1": 1, "10": 10, "300": 300, "123456789": 123456789, "999999999": 999999999} {
+		if n, is := ReadNumber(s); n != want || !is {
+			t.Errorf("ReadNumber(%q): %d, %t", s, n, is)
+		}
+	}
+	for _, s := range []string{"", "0", "00", "01", "-1", "+1", " 1", "1 ", "1a", "0x1", "1_0", "1000000000", "0000000001", strings.Repeat("1", 5000)} {
+		if n, is := ReadNumber(s); n != 0 || is {
+			t.Errorf("ReadNumber(%.20q): %d, %t", s, n, is)
+		}
+	}
+}
+
 func TestHowManyFiltersP19(t *testing.T) {
 	wantCheck(t, filtering(), api.ErrArg)
 	wantCheck(t, api.Plan{Name: "s", Filters: []string{}}, api.ErrArg)
