@@ -333,6 +333,15 @@ func TestPublishP22(t *testing.T) {
 }
 
 // The number is that behind the last one there ever was, also if that message is gone.
+func TestTakesP22(t *testing.T) {
+	s := roomy(t, nil)
+	for of, want := range map[string]bool{"a.x": true, "a.x.y": true, "b": true, "a": false, "b.b": false, "c": false, "": false, "a.*": false, "a.": false} {
+		if is := s.Takes(of); is != want {
+			t.Errorf("Takes(%q): %t", of, is)
+		}
+	}
+}
+
 func TestNumbersP22(t *testing.T) {
 	s := roomy(t, nil)
 	wantPublished(t, s, 0, post("b"), 1)
